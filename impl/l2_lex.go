@@ -68,31 +68,16 @@ func NameOk(text string) bool {
 
 // QuotePut is a text between quotes.
 func QuotePut(text string) string {
-	var out strings.Builder
-	out.WriteByte('"')
-	for i := range len(text) {
-		putQuoted(&out, text[i])
-	}
-	out.WriteByte('"')
-	return out.String()
+	return paperQuoting().put(text)
 }
 
 // QuoteGet reads a text between quotes.
 func QuoteGet(text string) (string, bool) {
-	last := len(text) - 1
-	if last < 1 || text[0] != '"' || text[last] != '"' {
+	got, size := paperQuoting().get(text)
+	if size == 0 || size < len(text) {
 		return "", false
 	}
-	var out strings.Builder
-	for rest := text[1:last]; rest != ""; {
-		b, size := getQuoted(rest)
-		if size == 0 {
-			return "", false
-		}
-		out.WriteByte(b)
-		rest = rest[size:]
-	}
-	return out.String(), true
+	return got, true
 }
 
 // lexFault is a code of Lex, and where.
@@ -284,60 +269,102 @@ func isWord(text string) bool {
 	return false
 }
 
+// quoting is how bytes that do not stand for themselves are written between quotes.
+type quoting struct {
+	hex     string // what stands ahead of the two figures of any byte
+	marks   string // what may stand behind a stroke
+	bytes   string // what each of the marks is read as
+	written int    // how many of the marks, from the first on, are written, too
+}
+
+// paperQuoting is how texts stand in papers.
+func paperQuoting() quoting {
+	return quoting{hex: `\x`, marks: `"\n`, bytes: "\"\\\n", written: 3}
+}
+
+// put is a text between quotes.
+func (q quoting) put(text string) string {
+	var out strings.Builder
+	out.WriteByte('"')
+	for i := range len(text) {
+		q.putByte(&out, text[i])
+	}
+	out.WriteByte('"')
+	return out.String()
+}
+
+// putByte writes a byte as it stands between quotes.
+func (q quoting) putByte(out *strings.Builder, b byte) {
+	if standsForItself(b) {
+		out.WriteByte(b)
+		return
+	}
+	if mark := strings.IndexByte(q.bytes[:q.written], b); mark >= 0 {
+		out.WriteByte('\\')
+		out.WriteByte(q.marks[mark])
+		return
+	}
+	out.WriteString(q.hex)
+	out.WriteByte(hexFigures[b/16])
+	out.WriteByte(hexFigures[b%16])
+}
+
+// get is the text between two quotes that a text begins with, and how many
+// bytes it is written with; 0, if it does not begin so.
+func (q quoting) get(text string) (string, int) {
+	if !strings.HasPrefix(text, `"`) {
+		return "", 0
+	}
+	var out strings.Builder
+	for at := 1; at < len(text); {
+		if text[at] == '"' {
+			return out.String(), at + 1
+		}
+		b, size := q.getByte(text[at:])
+		if size == 0 {
+			return "", 0
+		}
+		out.WriteByte(b)
+		at += size
+	}
+	return "", 0
+}
+
+// getByte is the byte that a text, not empty, begins with, as it stands
+// between quotes, and how many bytes it is written with; 0, if it is not written so.
+func (q quoting) getByte(text string) (byte, int) {
+	if standsForItself(text[0]) {
+		return text[0], 1
+	}
+	if figures, found := strings.CutPrefix(text, q.hex); found {
+		if b, ok := hexByte(figures); ok {
+			return b, len(q.hex) + 2
+		}
+		return 0, 0
+	}
+	if text[0] != '\\' || len(text) < 2 {
+		return 0, 0
+	}
+	if mark := strings.IndexByte(q.marks, text[1]); mark >= 0 {
+		return q.bytes[mark], 2
+	}
+	return 0, 0
+}
+
 // standsForItself says whether a byte is written between quotes as it is.
 func standsForItself(b byte) bool {
 	return 32 <= b && b <= 126 && b != '"' && b != '\\'
 }
 
-// putQuoted writes a byte as it stands between quotes.
-func putQuoted(out *strings.Builder, b byte) {
-	switch {
-	case standsForItself(b):
-		out.WriteByte(b)
-	case b == '\n':
-		out.WriteString(`\n`)
-	case b == '"' || b == '\\':
-		out.WriteByte('\\')
-		out.WriteByte(b)
-	default:
-		out.WriteString(`\x`)
-		out.WriteByte(hexFigures[b/16])
-		out.WriteByte(hexFigures[b%16])
-	}
-}
-
-// getQuoted is the byte that a text between quotes, not empty, begins with,
-// and how many bytes it is written with; 0, if it is not written so.
-func getQuoted(text string) (byte, int) {
-	if text[0] != '\\' {
-		if standsForItself(text[0]) {
-			return text[0], 1
-		}
-		return 0, 0
-	}
+// hexByte is the byte of the two figures that a text begins with.
+func hexByte(text string) (byte, bool) {
 	if len(text) < 2 {
-		return 0, 0
+		return 0, false
 	}
-	switch text[1] {
-	case 'n':
-		return '\n', 2
-	case '"', '\\':
-		return text[1], 2
-	case 'x':
-		return getHex(text)
-	}
-	return 0, 0
-}
-
-// getHex is the byte of a stroke, x and two figures that a text begins with, and their size; 0, if it does not.
-func getHex(text string) (byte, int) {
-	if len(text) < 4 {
-		return 0, 0
-	}
-	high := strings.IndexByte(hexFigures, text[2])
-	low := strings.IndexByte(hexFigures, text[3])
+	high := strings.IndexByte(hexFigures, text[0])
+	low := strings.IndexByte(hexFigures, text[1])
 	if high < 0 || low < 0 {
-		return 0, 0
+		return 0, false
 	}
-	return byte(high*16 + low), 4
+	return byte(high*16 + low), true
 }
