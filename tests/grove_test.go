@@ -50,7 +50,7 @@ type grower struct {
 	papers []string
 }
 
-// groverSorts is the sorts of what is made, with the field that is of that sort by its name.
+// grownSorts is the sorts of what is made, with the field that is of that sort by its name.
 var grownSorts = []struct{ sort, field string }{
 	{"number", "a"}, {"number", "b"}, {"text", "t"}, {"truth", "h"}, {"numbers", "l"}, {"texts", "m"}, {"object", "o"},
 }
@@ -197,7 +197,7 @@ func cameTo(wrong bool) []outcome {
 	return slices.DeleteFunc(slices.Clone(grove()), func(o outcome) bool { return (o.code != 0) != wrong })
 }
 
-// mostTexts holds that the texts of the grove, but for a few that are there to be refused, can be worked out.
+// The grove has trees of each code and values of each kind; but a few of its texts are there to be refused.
 func TestGrove(t *testing.T) {
 	refused := 0
 	for _, text := range groveTexts {

@@ -119,7 +119,7 @@ func TestCostsOfSameAndValue(t *testing.T) {
 	wantCosts(t, []cost{
 		{"1 == 1", "true", 5, 5}, {"1 != 1", "false", 5, 5}, {"1 == \"a\"", "false", 5, 5}, {"[1, 2] == [1, 2]", "true", 11, 11}, {"[1, 2] == [2, 2]", "false", 8, 8}, {"[1, 2] == [1]", "false", 5, 5}, {"[[1]] == [[1]]", "true", 11, 11},
 		{"{a: 1, h:: 1} == {a: 1}", "true", 8, 8}, {"{a: 1} == {b: 1}", "false", 5, 5}, {"{b: 1, a: 2} == {a: 3, b: error \"x\"}", "false", 8, 8}, {"local a = [1]; a == a", "true", 9, 11}, {"local a = {x: 1 + 1}; a == a", "true", 11, 15},
-		{"(function() 1) == 1", "code 3", 4, 4}, {"1 == (function() 1)", "code 3", 4, 4}, {"[error \"x\"] == [1 / 0]", "code 10", 6, 6}, {"[1] == [error \"x\"]", "code 10", 7, 7}, {"[1, error \"x\"] == [2, 1 / 0]", "false", 8, 8}, {"[function() 1] == [1, 2]", "false", 5, 5},
+		{"(function() 1) == 1", "code 3", 4, 4}, {"1 == (function() 1)", "code 3", 4, 4}, {"[error \"x\"] == [1 / 0]", "code 10", 6, 6}, {"[1] == [error \"x\"]", "code 10", 7, 7}, {"{a: error \"x\"} == {a: 1 / 0}", "code 10", 6, 6}, {"[1, error \"x\"] == [2, 1 / 0]", "false", 8, 8}, {"[function() 1] == [1, 2]", "false", 5, 5},
 		{"[[[1]]]", "[[[1]]]", 8, 8}, {"{a: {b: [1, 2]}, c: \"x\"}", "{\"a\":{\"b\":[1,2]},\"c\":\"x\"}", 12, 12}, {"[1, error \"x\", 1 / 0]", "code 10", 6, 6}, {"{b: error \"x\", a: 1 / 0}", "code 6", 5, 5},
 		{"[std.range(60) for x in std.range(60)]", "code 7", 3784, 3784}, {"local a = [a]; a", "code 7", 24, 63}, {"local a = {x: a}; a", "code 7", 24, 63}, {"local a = [a]; a == a", "code 7", 26, 106},
 	})
