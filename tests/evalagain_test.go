@@ -60,11 +60,11 @@ func evalAgain(n impl.Node, fuel int, keep bool) (impl.Value, int, int) {
 	if whyWrong(n) != "" || len(freesAgain(n, "")) > 0 || asksOutside(n) > 0 || fuel < 0 || fuel > 20000 {
 		return impl.Value{}, 12, 0
 	}
-	return (&again{fuel: fuel, keep: keep}).all(n)
+	return (&again{fuel: fuel, keep: keep}).all(&pot{tree: n})
 }
 
-func (a *again) all(n impl.Node) (impl.Value, int, int) {
-	x, code := a.work(n, sight{})
+func (a *again) all(p *pot) (impl.Value, int, int) {
+	x, code := a.ask(p)
 	if code != 0 {
 		return impl.Value{}, code, a.spent
 	}
@@ -257,17 +257,22 @@ func (a *again) field(o *stuff, below int, name string) (*stuff, int) {
 	if len(having) == 0 {
 		return nil, 4
 	}
-	// from the lowest that is needed up to the last, each put to what is below it
+	// each is asked for from the last one down to the lowest that is needed; then they are put together from below
 	from := len(having) - 1
 	for from > 0 && o.sort(having[from], name) == 2 {
 		from--
 	}
-	var out *stuff
-	for _, layer := range having[from:] {
-		x, code := a.ask(o.pot(layer, name))
-		if code == 0 && out != nil {
-			x, code = add(out, x)
+	var asked []*stuff
+	for i := len(having) - 1; i >= from; i-- {
+		x, code := a.ask(o.pot(having[i], name))
+		if code != 0 {
+			return nil, code
 		}
+		asked = append(asked, x)
+	}
+	out := asked[len(asked)-1]
+	for i := len(asked) - 2; i >= 0; i-- {
+		x, code := add(out, asked[i])
 		if code != 0 {
 			return nil, code
 		}

@@ -127,17 +127,13 @@ func papersAgain(list []impl.Paper, name string, fuel int) (impl.Value, int, int
 		return impl.Value{}, 11, 0
 	}
 	a := &again{fuel: fuel, keep: true, papers: map[string]*pot{}}
-	var top impl.Node
 	for _, paper := range list {
 		if slices.Contains(all, paper.Name) {
 			n, _, _ := impl.Parse(paper.Text)
 			a.papers[paper.Name] = &pot{tree: n}
-			if paper.Name == name {
-				top = n
-			}
 		}
 	}
-	return a.all(top)
+	return a.all(a.papers[name])
 }
 
 // shelves is papers that hang on a source of numbers alone, some of which take others in, that may be wrong or not there.
@@ -320,16 +316,89 @@ func TestPapersTexts(t *testing.T) {
 	}{
 		{base, "base", "{\"list\":[1,2.5],\"name\":\"b\",\"url\":\"b:80\"} 21"},
 		{base, "main", "{\"all\":[2,5,6],\"list\":[1,2.5,3],\"name\":\"b\",\"port\":80.5,\"url\":\"b:80.5\"} 47"},
-		// the tree of a, of b, and, where b asks for it, the cell of a
-		{list, "a", "{\"x\":1,\"y\":1} 14"},
-		{list, "c", "code 9 2"}, {list, "d", "code 9 3"}, {list, "e", "code 9 3"}, {list, "f", "1 3"},
+		// where b asks for a, that is done, and so is its field
+		{list, "a", "{\"x\":1,\"y\":1} 10"},
+		{list, "c", "code 9 1"}, {list, "d", "code 9 2"}, {list, "e", "code 9 2"}, {list, "f", "1 3"},
 		// the cell of b is worked out once, and what stands in it
-		{kept, "a", "[[2],[2],2] 16"}, {kept, "c", "code 9 8"}, {kept, "d", "{\"v\":1,\"w\":1} 9"}, {kept, "e", "true 10"}, {kept, "f", "{\"x\":1,\"y\":1} 7"},
+		{kept, "a", "[[2],[2],2] 16"}, {kept, "c", "code 9 4"}, {kept, "d", "{\"v\":1,\"w\":1} 7"}, {kept, "e", "true 10"}, {kept, "f", "{\"x\":1,\"y\":1} 7"},
 	} {
 		if got := told(impl.PapersEval(c.list, c.name, impl.FuelMax)); got != c.want {
 			t.Errorf("%s: %s instead of %s", c.name, got, c.want)
 		}
 	}
+}
+
+// paperCost is what a paper comes to, or "code" and that, and how much is spent.
+type paperCost struct {
+	list  []impl.Paper
+	name  string
+	want  string
+	spent int
+}
+
+// wantPaperCosts holds what papers come to with FuelMax, with just as much as is spent, and with all that is less.
+func wantPaperCosts(t *testing.T, list []paperCost) {
+	t.Helper()
+	for _, c := range list {
+		want := fmt.Sprint(c.want, " ", c.spent)
+		for _, fuel := range []int{impl.FuelMax, c.spent + 1, c.spent} {
+			if got := told(impl.PapersEval(c.list, c.name, fuel)); got != want {
+				t.Errorf("%v, %s with %d: %s instead of %s", c.list, c.name, fuel, got, want)
+			}
+		}
+		for fuel := range c.spent {
+			if got, want := told(impl.PapersEval(c.list, c.name, fuel)), fmt.Sprint("code 1 ", fuel); got != want {
+				t.Errorf("%v, %s with %d: %s instead of %s", c.list, c.name, fuel, got, want)
+			}
+		}
+	}
+}
+
+// A paper that takes itself in while it is worked out is a loop, wherever that stands in it.
+func TestPaperAsksForItself(t *testing.T) {
+	var list []paperCost
+	for text, spent := range map[string]int{
+		"import a": 1, "import a + {}": 2, "{} + import a": 3, "-import a": 2, "[import a][0]": 4, "(import a).b": 2, "(function(x) import a)(1)": 3,
+		"if true then import a else 1": 3, "local q = import a; q": 3, "std.length(import a)": 2, "[x for x in import a]": 2, "{b: import a}.b": 3, "import a == 1": 2,
+		// what stands in it asks for itself, when the paper is done
+		"[(import a)[0]]": 5, "{b: (import a).b}": 4, "{b: (import a).c, c: (import a).b}": 6, "{b: 1} + {b+: (import a).b}": 6,
+	} {
+		list = append(list, paperCost{papers("a", text), "a", "code 9", spent})
+	}
+	wantPaperCosts(t, list)
+}
+
+// A paper that is asked for only when it is done is not worked out once more, nor is what was asked for in it.
+func TestPaperIsDoneOnce(t *testing.T) {
+	wantPaperCosts(t, []paperCost{
+		{papers("a", "{b: 1, c: (import a).b}"), "a", "{\"b\":1,\"c\":1}", 7}, {papers("a", "{c: 1, b: (import a).c}"), "a", "{\"b\":1,\"c\":1}", 7}, {papers("a", "{a: 1} + {b: (import a).a}"), "a", "{\"a\":1,\"b\":1}", 9},
+		{papers("a", "[1 + 1, (import a)[0]]"), "a", "[2,2]", 10}, {papers("a", "[(import a)[1], 1 + 1]"), "a", "[2,2]", 10}, {papers("a", "[1, (import a)[0], (import a)[1]]"), "a", "[1,1,1]", 12},
+		{papers("a", "local f = import a; {x: 1, y: f.x, z: f.y}"), "a", "{\"x\":1,\"y\":1,\"z\":1}", 12}, {papers("a", "{x:: 1 + 1, y: (import a).x, z: self.x}"), "a", "{\"y\":2,\"z\":2}", 11},
+		{papers("a", "{x: 1, y: self.x, z: ((import a) + {x: 2, z: 0}).y}"), "a", "{\"x\":1,\"y\":1,\"z\":2}", 15},
+		// not asked for at all
+		{papers("a", "[1, import a][0]"), "a", "1", 5}, {papers("a", "{x:: import a, y: 1}"), "a", "{\"y\":1}", 4}, {papers("a", "local q = import a; 1"), "a", "1", 3}, {papers("a", "true || import a"), "a", "true", 3},
+		// a function is no value, whatever it would take in
+		{papers("a", "function(x) import a"), "a", "code 3", 2},
+		// taken in by one that is asked for, it is done once as well
+		{papers("a", "{b: 1, c: (import a).b}", "z", "import a"), "z", "{\"b\":1,\"c\":1}", 8}, {papers("a", "{b: 1, c: (import a).b}", "z", "[import a, (import a).c]"), "z", "[{\"b\":1,\"c\":1},1]", 13}, {papers("a", "import a", "z", "import a"), "z", "code 9", 2},
+	})
+}
+
+// Two and three papers that take one another in, from each of them.
+func TestPapersInARing(t *testing.T) {
+	two := papers("a", "import b + {}", "b", "import a + {}")
+	behind := papers("a", "{x: 1, y: (import b).z}", "b", "{z: (import a).x}")
+	beneath := papers("a", "{x: 1} + import b", "b", "{y: (import a).x}")
+	fields := papers("a", "{x: (import b).x}", "b", "{x: (import a).x}")
+	items := papers("a", "[1 + 1, import b]", "b", "[(import a)[0], (import a)[0]]")
+	three := papers("a", "import b + {}", "b", "import c + {}", "c", "import a + {}")
+	round := papers("a", "{x: 1, y: (import b).y}", "b", "{y: (import c).z}", "c", "{z: (import a).x}")
+	plain := papers("a", "import b", "b", "import c", "c", "import a")
+	wantPaperCosts(t, []paperCost{
+		{two, "a", "code 9", 4}, {two, "b", "code 9", 4}, {behind, "a", "{\"x\":1,\"y\":1}", 10}, {behind, "b", "{\"z\":1}", 7}, {beneath, "a", "{\"x\":1,\"y\":1}", 10}, {beneath, "b", "{\"y\":1}", 9},
+		{fields, "a", "code 9", 7}, {fields, "b", "code 9", 7}, {items, "a", "[2,[2,2]]", 17}, {items, "b", "[2,2]", 14},
+		{three, "a", "code 9", 6}, {three, "b", "code 9", 6}, {three, "c", "code 9", 6}, {round, "a", "{\"x\":1,\"y\":1}", 13}, {round, "b", "{\"y\":1}", 10}, {round, "c", "{\"z\":1}", 7}, {plain, "a", "code 9", 3}, {plain, "b", "code 9", 3}, {plain, "c", "code 9", 3},
+	})
 }
 
 // Papers see nothing of who takes them in, and what they are given is not changed.

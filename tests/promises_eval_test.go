@@ -145,21 +145,71 @@ func TestP42Put(t *testing.T) {
 	r := rand.New(rand.NewSource(9))
 	o := orchard{t: t}
 	all, wrong := grove(), cameTo(true)
+	// own is asked for ahead of `+`, as a field's own cell is ahead of what is below it
+	sum := "local own = u; if std.type(own) == \"\" then 0 else t + own"
+	sums := "local top = w; local own = u; if std.type(top) == std.type(own) + \"x\" then 0 else t + own + top"
 	for range 4000 {
-		a, b := all[r.Intn(len(all))].tree, all[r.Intn(len(all))].tree
+		a, b, c := all[r.Intn(len(all))].tree, all[r.Intn(len(all))].tree, all[r.Intn(len(all))].tree
 		if r.Intn(2) == 0 {
-			a, b = wrong[r.Intn(len(wrong))].tree, wrong[r.Intn(len(wrong))].tree
+			a, b, c = wrong[r.Intn(len(wrong))].tree, wrong[r.Intn(len(wrong))].tree, wrong[r.Intn(len(wrong))].tree
 		}
-		o.alike(put(t, "({a: t} + {a+: u}).a", a, b), put(t, "t + u", a, b))
-		o.alike(put(t, "({a+: t} + {b: 1} + {a+: u}).a", a, b), put(t, "t + u", a, b))
-		o.alike(put(t, "({a: t} + {a+: u} + {a+: t}).a", a, b), put(t, "t + u + t", a, b))
-		o.alike(put(t, "({a: t} + {a: u} + {a+: t}).a", a, b), put(t, "u + t", a, b))
+		o.alike(put(t, "({a: t} + {a+: u}).a", a, b), put(t, sum, a, b))
+		o.alike(put(t, "({a+: t} + {b: 1} + {a+: u}).a", a, b), put(t, sum, a, b))
+		o.alike(put(t, "({a: t} + {a+: u} + {a+: w}).a", a, b, c), put(t, sums, a, b, c))
+		o.alike(put(t, "({a: w} + {a: t} + {a+: u}).a", a, b, c), put(t, sum, a, b))
 	}
 	o.atLeast(8000)
 	wantOutcomes(t, [][2]string{
 		{"{x: 1} + {x+: 2} + {x: super.x * 10}", "{\"x\":30}"}, {"{x: 1} + {x+: super.x}", "{\"x\":2}"}, {"{x: 1} + {x+: self.y, y: 4}", "{\"x\":5,\"y\":4}"}, {"{x: 1} + {x+: self.x}", "code 9"}, {"{x: 1} + {x+: \"a\"}", "code 3"}, {"{x: [1]} + {x+: [2]} + {x+: [3]}", "{\"x\":[1,2,3]}"},
-		{"{x: {a: 1}} + {x+: {b: self.a}} + {x+: {a: 2}}", "{\"x\":{\"a\":2,\"b\":2}}"}, {"({x: error \"a\"} + {x+: 1 / 0}).x", "code 10"}, {"({x: 1 / 0} + {x+: error \"a\"}).x", "code 6"}, {"({x: 1 / 0} + {x: 1} + {x+: 2}).x", "3"},
+		{"{x: {a: 1}} + {x+: {b: self.a}} + {x+: {a: 2}}", "{\"x\":{\"a\":2,\"b\":2}}"}, {"({x: error \"a\"} + {x+: 1 / 0}).x", "code 6"}, {"({x: 1 / 0} + {x+: error \"a\"}).x", "code 10"}, {"({x: 1 / 0} + {x: 1} + {x+: 2}).x", "3"},
 	})
+}
+
+// wantFuels holds costs, with just as much fuel as is spent, one more, and with all that is less.
+func wantFuels(t *testing.T, list []cost) {
+	t.Helper()
+	wantCosts(t, list)
+	evals := []func(impl.Node, int) (impl.Value, int, int){impl.Eval, impl.EvalAnew}
+	for _, c := range list {
+		n := mustRead(t, c.text)
+		for i, spent := range []int{c.kept, c.anew} {
+			for fuel := range spent + 2 {
+				want := fmt.Sprint("code 1 ", fuel)
+				if fuel >= spent {
+					want = fmt.Sprint(c.want, " ", spent)
+				}
+				if got := told(evals[i](n, fuel)); got != want {
+					t.Errorf("%s with %d: %s instead of %s", c.text, fuel, got, want)
+				}
+			}
+		}
+	}
+}
+
+// Of a field that is put to what is below its own cell is asked for first; if that is wrong, nothing below it is worked out.
+func TestP42OwnFirst(t *testing.T) {
+	wantFuels(t, []cost{
+		// two layers: its own wrong, what is below wrong, both, neither, and neither, but not both together
+		{"({a: 1 + 2} + {a+: [0][1]}).a", "code 5", 7, 7}, {"({a: [0][1]} + {a+: 1 + 2}).a", "code 5", 10, 10}, {"({a: 1 / 0} + {a+: error \"x\"}).a", "code 10", 6, 6}, {"({a: error \"x\"} + {a+: 1 / 0}).a", "code 6", 7, 7},
+		{"({a: 1 + 2} + {a+: 3}).a", "6", 9, 9}, {"({a: 3} + {a+: 1 + 2}).a", "6", 9, 9}, {"({a: \"x\"} + {a+: \"y\"}).a", "\"xy\"", 7, 7}, {"({a: [1]} + {a+: [2]}).a", "[1,2]", 11, 11},
+		{"({a: 1} + {a+: \"x\"}).a", "code 3", 6, 6}, {"({a: 1 + 2} + {a+: \"x\"}).a", "code 3", 8, 8}, {"({a: 99999999} + {a+: 0.1}).a", "code 6", 6, 6}, {"({a: null} + {a+: 1 / 0}).a", "code 6", 7, 7},
+		// three layers: the last wrong, the midst, the lowest, two of them, none, and none, but not all together
+		{"({a: 1} + {a+: 2 + 3} + {a+: [0][1]}).a", "code 5", 9, 9}, {"({a: 1} + {a+: [0][1]} + {a+: 2 + 3}).a", "code 5", 12, 12}, {"({a: [0][1]} + {a+: 1} + {a+: 2 + 3}).a", "code 5", 13, 13},
+		{"({a: [0][1]} + {a+: 1 / 0} + {a+: 2}).a", "code 6", 10, 10}, {"({a: [0][1]} + {a+: 2} + {a+: 1 / 0}).a", "code 6", 9, 9}, {"({a: 2} + {a+: [0][1]} + {a+: 1 / 0}).a", "code 6", 9, 9},
+		{"({a: 1} + {a+: 2} + {a+: 3 + 4}).a", "10", 12, 12}, {"({a: \"x\"} + {a+: \"y\"} + {a+: \"z\"}).a", "\"xyz\"", 10, 10}, {"({a: 1} + {a+: \"x\"} + {a+: 2}).a", "code 3", 9, 9}, {"({a: 1} + {a+: \"x\"} + {a+: 1 / 0}).a", "code 6", 9, 9}, {"({a: 1} + {a+: 2} + {a+: \"x\"}).a", "code 3", 9, 9},
+		// what is below is not all that is put to what is below it, or not right below
+		{"({a: [0][1]} + {a: 1} + {a+: 2}).a", "3", 9, 9}, {"({a: [0][1]} + {b: 0} + {a+: 1 + 2}).a", "code 5", 12, 12}, {"({a: 1 + 2} + {b: 0} + {a+: [0][1]}).a", "code 5", 9, 9}, {"({b: 1 / 0} + {a+: 1 + 2}).a", "3", 8, 8},
+		// however it is asked for
+		{"({a: 1 + 2} + {a+: [0][1]} + {b: super.a}).b", "code 5", 10, 10}, {"({a: [0][1]} + {a+: 1 + 2} + {b: super.a}).b", "code 5", 13, 13}, {"({a: 1 + 2} + {a+: [0][1], b: self.a})[\"b\"]", "code 5", 10, 10}, {"{a: 1 + 2} + {a+: [0][1]}", "code 5", 7, 7}, {"{a: [0][1]} + {a+: 1 + 2}", "code 5", 10, 10}, {"({a: 1 + 2} + {a+: [0][1]}) == {a: 1}", "code 5", 9, 9}, {"({a: [0][1]} + {a+: 1 + 2}) == {a: 1}", "code 5", 12, 12}, {"std.text({a: 1 + 2} + {a+: [0][1]})", "code 5", 8, 8},
+		{"{x+: (function(n) n)(2), y: \"\\n\\\"\"[5], z:: std.fold(function(m, n) 5, [1, 3], 2.5)} + {x+: [0][1]}", "code 5", 7, 7},
+		// one asks for the other one
+		{"({a: 1 + 2} + {a+: super.a}).a", "6", 9, 12}, {"({a: self.b + 1, b: 2} + {a+: self.b}).a", "5", 12, 13}, {"({a: 1} + {a+: super.b, b: 1 / 0}).a", "code 4", 5, 5}, {"({a: super.a} + {a+: 1}).a", "code 4", 6, 6},
+	})
+	for text, spent := range map[string]int{"{a: 1 + 2} + {a+: self.a}": 6, "({a: self.a} + {a+: 1}).a": 7, "({a: self.a} + {a+: 1 + 2}).a": 9, "({a: 1} + {a+: self.a} + {a+: 1}).a": 9} {
+		if got, want := told(impl.Eval(mustRead(t, text), impl.FuelMax)), fmt.Sprint("code 9 ", spent); got != want {
+			t.Errorf("%s: %s instead of %s", text, got, want)
+		}
+	}
 }
 
 func TestP43Functions(t *testing.T) {
@@ -284,7 +334,7 @@ func TestP55First(t *testing.T) {
 		for _, b := range codes {
 			x, y := wrongTree(t, a), wrongTree(t, b)
 			for _, text := range []string{"[t, u]", "[1, t, u]", "{a: t, b: u}", "{b: u, a: t}", "{b:: u, a: t}", "{b: 1, a: [2, t], c: u}", "t + u", "t - u", "t * u", "t / u", "t % u", "t < u", "t == u", "t != u", "t && u", "t || u", "[t] == [u]", "[1, t] == [1, u]", "{a: t, b: u} == {b: 1, a: 1}", "{a: t} == {a: u}", "{b: 2, a: t} == {a: u, b: 3}", "-t", "!t", "error t", "if t then u else u", "if true then t else u", "t(u)", "t.a", "t[u]", "[u for x in t]", "(function(x, y) x + y)(t, u)", "(function(x, y) y)(u, t)",
-				"std.map(t, u)", "std.filter(t, u)", "std.join(t, u)", "std.has(t, u)", "std.fold(t, u, u)", "std.fold(function(m, n) m, t, u)", "std.fold(function(m, n) n, [t, u], 1)", "std.fold(function(m, n) m, [1], t)", "std.sort([t, u])", "std.sort([1, t, u])", "std.join(\"\", [\"a\", t, u])", "std.text([t, u])", "std.length(t)", "std.keys(t)", "std.type(t)", "std.range(t)", "std.filter(function(x) x, [t, u])", "std.map(function(x) x, [t, u])", "local q = u; t", "local q = t; [q, u]", "({a: t} + {a+: u}).a", "({a: u} + {a: t}).a"} {
+				"std.map(t, u)", "std.filter(t, u)", "std.join(t, u)", "std.has(t, u)", "std.fold(t, u, u)", "std.fold(function(m, n) m, t, u)", "std.fold(function(m, n) n, [t, u], 1)", "std.fold(function(m, n) m, [1], t)", "std.sort([t, u])", "std.sort([1, t, u])", "std.join(\"\", [\"a\", t, u])", "std.text([t, u])", "std.length(t)", "std.keys(t)", "std.type(t)", "std.range(t)", "std.filter(function(x) x, [t, u])", "std.map(function(x) x, [t, u])", "local q = u; t", "local q = t; [q, u]", "({a: u} + {a+: t}).a", "({a: u} + {a: t}).a"} {
 				if a == impl.EvalBig && text != "[1, t, u]" && text != "if true then t else u" {
 					continue // it is the value that is too big
 				}
